@@ -1,0 +1,1 @@
+"""Two-sensor reporting system: cheapest zero-error codes, helper and query modes."""
