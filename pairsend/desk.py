@@ -5,24 +5,28 @@ from pairsend.operations import (
     cheapest_sizes_with_errors,
     choose_plan,
     choose_plan_with_errors,
+    compare_modes,
     create,
+    drop_plan,
+    evaluate_plan,
     get_plan,
     is_reliable,
+    ledger,
+    list_failures,
+    preview_report,
+    send_report,
     set_prices,
     set_value,
     set_weight,
+    summary,
+    undo,
 )
 from pairsend.states import Instance
 
 NO_INSTANCE = -11
 
-# How many arguments each operation has. Those that aren't built yet are counted too:
-# they also answer -11 as long as there is no instance.
+# How many arguments each operation has.
 ARGUMENT_COUNTS = (2, 3, 3, 2, 2, 2, 1, 1, 0, 0, 0, 0, 2, 2, 0, 1, 0, 0, 0)
-
-
-class NotBuilt(Exception):
-    """The operation isn't part of the program yet."""
 
 
 def change_pairs(instance, number, given):
@@ -49,6 +53,30 @@ def use_plans(instance, number, given):
     return is_reliable(instance)
 
 
+def operate_plan(instance, number, given):
+    """Return the answer of an operation from 10 to 14."""
+    if number == 10:
+        return list_failures(instance)
+    if number == 11:
+        return evaluate_plan(instance)
+    if number == 12:
+        return send_report(instance, given[0], given[1])
+    if number == 13:
+        return preview_report(instance, given[0], given[1])
+    return ledger(instance)
+
+
+def oversee(instance, number, given):
+    """Return the answer of an operation from 15 to 18."""
+    if number == 15:
+        return compare_modes(instance, given[0])
+    if number == 16:
+        return drop_plan(instance)
+    if number == 17:
+        return undo(instance)
+    return summary(instance)
+
+
 def perform(instance, number, given):
     """Return the answer of one operation."""
     if number == 0:
@@ -59,7 +87,9 @@ def perform(instance, number, given):
         return change_pairs(instance, number, given)
     if number <= 9:
         return use_plans(instance, number, given)
-    raise NotBuilt(f"operation {number}")
+    if number <= 14:
+        return operate_plan(instance, number, given)
+    return oversee(instance, number, given)
 
 
 def answers(calls):

@@ -5,12 +5,14 @@ A refusal is a list that holds its code alone.
 
 from pairsend.cheapest import cheapest_plan
 from pairsend.lossy import cheapest_plan_with_errors
-from pairsend.reports import all_correct, report_cost
+from pairsend.reports import decoded_pair, failing_pairs, is_correct, report_cost
 from pairsend.states import State
 
 NO_SUCH_SYMBOL = -2
 NO_PLAN = -6
+NO_HISTORY = -6
 OUT_OF_RANGE = -22
+NOT_POSSIBLE = -33
 
 
 def create(instance, x_count, y_count):
@@ -113,4 +115,109 @@ def is_reliable(instance):
     plan = instance.state.plan
     if plan is None:
         return [NO_PLAN]
-    return [1 if all_correct(instance.state, plan) else 0]
+    return [1 if failing_pairs(instance.state, plan) == [] else 0]
+
+
+def list_failures(instance):
+    """Operation 10."""
+    plan = instance.state.plan
+    if plan is None:
+        return [NO_PLAN]
+    pairs = failing_pairs(instance.state, plan)
+    numbers = [len(pairs)]
+    for x, y in pairs:
+        numbers.append(x)
+        numbers.append(y)
+    return numbers
+
+
+def evaluate_plan(instance):
+    """Operation 11."""
+    state = instance.state
+    if state.plan is None:
+        return [NO_PLAN]
+    total = state.total_weight()
+    failing = sum([state.weight_of(x, y) for x, y in failing_pairs(state, state.plan)])
+    return [total - failing, total, report_cost(state, state.plan)]
+
+
+def report_refusal(state, x, y):
+    """Return the code with which a report of the pair is refused, or None."""
+    if not state.has_symbols(x, y):
+        return NO_SUCH_SYMBOL
+    if state.plan is None:
+        return NO_PLAN
+    if state.weight_of(x, y) == 0:
+        return NOT_POSSIBLE
+    return None
+
+
+def report_answer(state, x, y):
+    """Return what a report of the pair answers when it isn't refused, the cost last."""
+    plan = state.plan
+    decoded = decoded_pair(state, plan, x, y)
+    correct = 1 if is_correct(state, plan, x, y) else 0
+    messages = [plan.x_message(x, y), plan.y_message(y)]
+    return [correct] + messages + [decoded[0], decoded[1], report_cost(state, plan)]
+
+
+def send_report(instance, x, y):
+    """Operation 12."""
+    state = instance.state
+    refusal = report_refusal(state, x, y)
+    if refusal is not None:
+        return [refusal]
+    answer = report_answer(state, x, y)
+    fresh = state.twin()
+    fresh.record(answer[0], answer[5])
+    instance.change(fresh)
+    return answer
+
+
+def preview_report(instance, x, y):
+    """Operation 13."""
+    refusal = report_refusal(instance.state, x, y)
+    if refusal is not None:
+        return [refusal]
+    return report_answer(instance.state, x, y)
+
+
+def ledger(instance):
+    """Operation 14."""
+    state = instance.state
+    return [state.sent_count, state.correct_count, state.total_cost]
+
+
+def compare_modes(instance, goal):
+    """Operation 15."""
+    if goal > 1:
+        return [OUT_OF_RANGE]
+    state = instance.state
+    return [4] + [report_cost(state, cheapest_plan(state, mode, goal)) for mode in range(4)]
+
+
+def drop_plan(instance):
+    """Operation 16."""
+    plan = instance.state.plan
+    if plan is None:
+        return [NO_PLAN]
+    fresh = instance.state.twin()
+    fresh.plan = None
+    instance.change(fresh)
+    return [plan.mode]
+
+
+def undo(instance):
+    """Operation 17."""
+    if len(instance.history) == 0:
+        return [NO_HISTORY]
+    instance.step_back()
+    return [len(instance.history)]
+
+
+def summary(instance):
+    """Operation 18."""
+    state = instance.state
+    plan_state = 0 if state.plan is None else state.plan.mode + 1
+    counts = [state.x_count, state.y_count, len(state.possible_pairs())]
+    return counts + [state.x_price, state.y_price, plan_state, len(instance.history)]

@@ -41,9 +41,9 @@ def is_correct(state, plan, x, y):
     return need(state, plan.mode, plan.goal, decoded[0], decoded[1]) == wanted
 
 
-def all_correct(state, plan):
-    """Return whether the plan is reliable."""
-    return all([is_correct(state, plan, x, y) for x, y in state.possible_pairs()])
+def failing_pairs(state, plan):
+    """Return the possible pairs whose reports aren't correct, in their order."""
+    return [pair for pair in state.possible_pairs() if not is_correct(state, plan, pair[0], pair[1])]
 
 
 def report_cost(state, plan):

@@ -59,6 +59,12 @@ class State:
         """Give the pair this value."""
         self.pair_values[self.place(x, y)] = value
 
+    def record(self, correct, cost):
+        """Write a report of this cost in the ledger; correct is 1 or 0."""
+        self.sent_count += 1
+        self.correct_count += correct
+        self.total_cost += cost
+
     def possible_pairs(self):
         """Return the possible pairs in their order."""
         pairs = []
@@ -94,3 +100,8 @@ class Instance:
         remembered = [self.state] + self.history
         self.history = remembered[:HISTORY_LIMIT]
         self.state = state
+
+    def step_back(self):
+        """Make the state before the latest change the present one again."""
+        self.state = self.history[0]
+        self.history = self.history[1:]

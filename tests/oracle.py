@@ -82,6 +82,14 @@ def bounds(plan):
     return x_bound, (0 if plan[0] == 3 else max(plan[3]) + 1)
 
 
+def plan_sizes(plan):
+    """The sizes of a plan."""
+    mode, goal, x_codes, y_code = plan
+    if mode == 0:
+        return len(set(x_codes[0])), len(set(y_code))
+    return max(len(set(x_codes[number])) for number in set(y_code)), (0 if mode == 3 else len(set(y_code)))
+
+
 def cost(world, sizes):
     return world["x_price"] * sizes[0] + world["y_price"] * sizes[1]
 
@@ -110,6 +118,45 @@ def cheapest(world, mode, goal):
                 offers.append((cost(world, (enough[0], b)), b, (enough[0], b)))
     sizes = min(offers)[2]
     return sizes, [plan for plan in good if within(plan, sizes)][0]
+
+
+def told_apart(code, world, goal, symbols):
+    """Whether, for each of these Y symbols by itself, the X code tells all that has to be told."""
+    for y in symbols:
+        column = [p for p in possible(world["weights"]) if p[1] == y]
+        for p, q in itertools.combinations(column, 2):
+            same = world["values"][p] == world["values"][q] if goal == 1 else p[0] == q[0]
+            if code[p[0]] == code[q[0]] and not same:
+                return False
+    return True
+
+
+def cheapest_by_class(world, mode, goal):
+    """What cheapest finds for modes 1 and 3, class by class: quick enough for all counts."""
+    x_count, y_count = world["x_count"], world["y_count"]
+    class_lists = canonical(y_count, y_count) if mode == 1 else [[0] * y_count]
+    good = {}
+    for classes in class_lists:
+        members = [[y for y in range(y_count) if classes[y] == number] for number in range(y_count)]
+        good[tuple(classes)] = [[code for code in canonical(x_count, x_count) if told_apart(code, world, goal, ys)]
+                                for ys in members]
+    offers = []
+    for b in range(1, y_count + 1):
+        enough = [max(min(max(code) + 1 for code in codes) for codes in good[classes])
+                  for classes in good if max(classes) < b]
+        sizes = (min(enough), 0 if mode == 3 else b)
+        offers.append((cost(world, sizes), b, sizes))
+    first = min(offers)
+    x_size = first[2][0]
+    for classes in sorted(good):
+        if max(classes) < first[1] and all(min(max(code) for code in codes) < x_size for codes in good[classes]):
+            x_codes = [[code for code in codes if max(code) < x_size][0] for codes in good[classes]]
+            return first[2], (mode, goal, x_codes, list(classes))
+
+
+def cheapest_quickly(world, mode, goal):
+    """The cheapest sizes and the cheapest plan, also where there are too many plans to try."""
+    return cheapest_by_class(world, mode, goal) if mode in (1, 3) else cheapest(world, mode, goal)
 
 
 def correct_weight(plan, world):

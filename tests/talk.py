@@ -7,6 +7,8 @@ NUMBERS = {
     "cheapest_sizes": 4, "choose_plan": 5,
     "cheapest_sizes_with_errors": 6, "choose_plan_with_errors": 7,
     "get_plan": 8, "is_reliable": 9,
+    "list_failures": 10, "evaluate_plan": 11, "send_report": 12, "preview_report": 13, "ledger": 14,
+    "compare_modes": 15, "drop_plan": 16, "undo": 17, "summary": 18,
 }
 TOP = 4294967295
 
@@ -58,3 +60,14 @@ def paired(x_count, y_count, weights, values=None, prices=None):
     if prices:
         calls.append(("set_prices",) + prices)
     return calls
+
+
+def watched(*calls):
+    """Return, after these calls on an instance of 2 by 2 symbols, all that can be seen of it."""
+    looks = [("get_plan",), ("list_failures",), ("evaluate_plan",), ("ledger",), ("summary",),
+             ("compare_modes", 0), ("compare_modes", 1)]
+    for x in range(2):
+        for y in range(2):
+            # These change the instance, but each answers what was there before.
+            looks += [("set_weight", x, y, 0), ("set_value", x, y, 0)]
+    return talk(*calls, *looks)[len(calls):]

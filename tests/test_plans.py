@@ -157,8 +157,8 @@ class Ties(unittest.TestCase):
 class Everything(unittest.TestCase):
     """Compares with the oracle, which tries everything."""
 
-    def compare(self, world, mode, goal):
-        sizes, plan = oracle.cheapest(world, mode, goal)
+    def compare(self, world, mode, goal, find=oracle.cheapest):
+        sizes, plan = find(world, mode, goal)
         cost = oracle.cost(world, sizes)
         got = talk(*world_calls(world), ("cheapest_sizes", mode, goal),
                    ("choose_plan", mode, goal), ("get_plan",), ("is_reliable",))[-4:]
@@ -179,6 +179,14 @@ class Everything(unittest.TestCase):
                 for goal in (0, 1):
                     self.compare(world, 1, goal)
                     self.compare(world, 3, goal)
+
+    def test_modes_1_and_3_class_by_class(self):
+        for x_count, y_count in SHAPES:
+            for seed in range(8):
+                world = make_world(seed, x_count, y_count)
+                for goal in (0, 1):
+                    self.compare(world, 1, goal, oracle.cheapest_by_class)
+                    self.compare(world, 3, goal, oracle.cheapest_by_class)
 
 
 class Reliable(unittest.TestCase):
@@ -243,19 +251,6 @@ class Refused(unittest.TestCase):
     def test_cheapest_sizes_takes_no_plan(self):
         got = talk(("create", 2, 2), ("cheapest_sizes", 0, 0), ("cheapest_sizes_with_errors", 0), ("get_plan",))
         self.assertEqual(got[3], [-6])
-
-    def test_no_code_of_mode_0_is_cheaper(self):
-        # Codes need not be canonical: any two lists of messages are tried.
-        for seed in range(8):
-            world = make_world(seed, 3, 3)
-            pairs = oracle.possible(world["weights"])
-            cheapest = last(*world_calls(world), ("cheapest_sizes", 0, 0))[0]
-            lists = [[a, b, c] for a in range(3) for b in range(3) for c in range(3)]
-            for x_code in lists:
-                for y_code in lists:
-                    if len({(x_code[x], y_code[y]) for x, y in pairs}) == len(pairs):
-                        sizes = (len(set(x_code)), len(set(y_code)))
-                        self.assertGreaterEqual(oracle.cost(world, sizes), cheapest)
 
 
 if __name__ == "__main__":

@@ -52,5 +52,20 @@ class Decoded(unittest.TestCase):
                                          oracle.correct(plan, world["weights"], world["values"], pair))
 
 
+class Sizes(unittest.TestCase):
+    def test_only_classes_that_occur_count(self):
+        codes = [[0, 1, 0], [0, 0, 0], [0, 1, 2]]
+        for classes, sizes in (([0, 0, 0], (2, 1)), ([0, 1, 1], (2, 2)), ([0, 1, 2], (3, 3))):
+            plan = Plan(1, 0, codes, classes)
+            self.assertEqual((plan.x_size(), plan.y_size()), sizes)
+            self.assertEqual(oracle.plan_sizes((1, 0, codes, classes)), sizes)
+
+    def test_mode_0_counts_both_codes_and_mode_3_no_class(self):
+        plan = Plan(0, 0, [[0, 1, 0]], [0, 1, 2])
+        self.assertEqual((plan.x_size(), plan.y_size()), (2, 3))
+        plan = Plan(3, 0, [[0, 1, 2], [0, 0, 0]], [0, 0])
+        self.assertEqual((plan.x_size(), plan.y_size()), (3, 0))
+
+
 if __name__ == "__main__":
     unittest.main()

@@ -119,7 +119,7 @@ class SetPrices(unittest.TestCase):
 
 class NoInstance(unittest.TestCase):
     def test_every_operation_but_create(self):
-        # Also with arguments that would be refused otherwise, and for operations 10 to 18.
+        # Also with arguments that would be refused otherwise.
         for number, count in enumerate((3, 3, 2, 2, 2, 1, 1, 0, 0, 0, 0, 2, 2, 0, 1, 0, 0, 0), 1):
             for argument in (0, 1, TOP):
                 self.assertEqual(talk((number,) + (argument,) * count, ("create", 1, 1)), [[-11], [0]])

@@ -2,6 +2,8 @@
 
 import random
 
+from pairsend import operations
+from pairsend.states import Instance
 
 # A request has at most 30 calls: create, set_prices and four calls of the test stand beside these.
 SETTINGS = 24
@@ -39,3 +41,24 @@ def world_calls(world):
             calls.append(("set_value",) + pair + (value,))
     calls.append(("set_prices", world["x_price"], world["y_price"]))
     return calls
+
+
+def made_instance(world):
+    """Return an instance of the world; operations on it aren't limited to 30."""
+    instance = Instance()
+    operations.create(instance, world["x_count"], world["y_count"])
+    for pair, weight in world["weights"].items():
+        operations.set_weight(instance, pair[0], pair[1], weight)
+    for pair, value in world["values"].items():
+        operations.set_value(instance, pair[0], pair[1], value)
+    operations.set_prices(instance, world["x_price"], world["y_price"])
+    return instance
+
+
+def picture(thing):
+    """Return all that an object holds, down to the last number."""
+    if hasattr(thing, "__dict__"):
+        return [type(thing).__name__, [(name, picture(part)) for name, part in sorted(vars(thing).items())]]
+    if isinstance(thing, (list, tuple)):
+        return [picture(part) for part in thing]
+    return thing
